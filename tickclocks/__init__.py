@@ -1,0 +1,1 @@
+"""Ticks and timers: a game that goes on in ticks that are all alike."""
