@@ -6,6 +6,9 @@ from tickclocks.game import answers
 
 HIGHEST = 4294967295
 
+# Numbers of clocks or timers that are never there, whatever they are cut down to.
+NEVER_THERE = (40, 128, 255, 256, 65535, 65536, 2147483647, 2147483648, HIGHEST)
+
 
 class Case(unittest.TestCase):
     def assertSequenceEqual(self, first, second, msg=None, seq_type=None):
@@ -16,6 +19,15 @@ class Case(unittest.TestCase):
         while at < min(len(first), len(second)) and first[at] == second[at]:
             at += 1
         self.fail(f"{msg}: from {at} on {str(first[at:])[:300]} is not {str(second[at:])[:300]}")
+
+    def assertNothingChanges(self, call):
+        """Behind this call, asked twice in the middle of a game, all is as without it."""
+        before = [speed(0, 130), clock(0, 70), clock(1, 199), timer(1, 2, 1), timer(0, 2, 0), timer(2, 30, 7),
+                  frame(131)]
+        behind = [*probes(3, 3), frame(95), *probes(3, 3)]
+        told = ask(*before, call, call, *behind)
+        self.assertEqual(told[:7] + told[9:], ask(*before, *behind), call)
+        self.assertEqual(told[7], told[8], call)
 
 
 def begins(step, most):
@@ -38,6 +50,27 @@ def timer(on, behind, again):
     return [4, on, behind, again]
 
 
+def stop(number):
+    return [5, number]
+
+
+def left(number):
+    return [6, number]
+
+
+def now(number):
+    return [7, number]
+
+
+def ahead():
+    """The call next, by a name that Python has not taken."""
+    return [8]
+
+
+def shows():
+    return [9]
+
+
 def cut(told):
     """Cut what answers() gave back into one list for each call."""
     lists = []
@@ -53,11 +86,19 @@ def cut(told):
 
 def ask(*calls):
     """Ask the calls of one game; give back one list for each."""
-    return cut(answers([number for call in calls for number in call]))
+    line = [number for call in calls for number in call]
+    if len(calls) > 40 or len(line) > 160:
+        raise ValueError("no such line is ever asked")
+    return cut(answers(line))
 
 
 def last(*calls):
     return ask(*calls)[-1]
+
+
+def probes(clocks=6, timers=13):
+    """Calls that change nothing and together tell all that is: the clocks, the timers, what comes and what was."""
+    return [*[now(number) for number in range(clocks)], *[left(number) for number in range(timers)], ahead(), shows()]
 
 
 def rings(answer):

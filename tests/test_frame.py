@@ -1,7 +1,6 @@
 import unittest
 
-from tickclocks.game import Game, pass_frame
-from tests.calls import HIGHEST, Case, ask, begins, clock, frame, last, rings, speed, timer
+from tests.calls import HIGHEST, Case, ask, begins, clock, frame, last, probes, rings, shows, speed, timer
 
 
 class Bounds(Case):
@@ -62,17 +61,8 @@ class Forgotten(Case):
                          [[0], [5, 0, 3, 1, 0, 1, 3, 0, 3, 5, 0, 5], [2, 0, 1, 7, 0, 7]])
 
     def test_are_counted_as_lost(self):
-        game = Game()
-        pass_frame(game, 80)
-        self.assertEqual(game.lost, 0)
-        pass_frame(game, 96)
-        self.assertEqual(game.lost, 1)
-        pass_frame(game, 100001)
-        self.assertEqual(game.lost, 1)
-        pass_frame(game, 100000)
-        self.assertEqual(game.lost, 1 + 6250 - 5)
-        game.restart(16, 5)
-        self.assertEqual(game.lost, 0)
+        told = ask(frame(80), shows(), frame(96), shows(), frame(100001), shows(), frame(100000), shows())
+        self.assertEqual([answer[2] for answer in told[1::2]], [0, 1, 1, 1 + 6250 - 5])
 
 
 class Ticks(Case):
@@ -91,9 +81,14 @@ def world():
 
 
 def rung(parts_by_frame):
-    """All that rings, whatever the frame; and what is left over behind the last frame."""
+    """All that rings, whatever the frame; what is left over behind the last frame; how many ticks there were."""
     told = ask(*world(), *[frame(parts) for parts in parts_by_frame])[len(world()):]
     return [ring for answer in told for ring in rings(answer)], told[-1][1], sum(answer[0] for answer in told)
+
+
+def world_behind(parts_by_frame):
+    """All that the calls that change nothing tell behind these frames."""
+    return ask(*world(), *[frame(parts) for parts in parts_by_frame], *probes(5, 6))[-13:]
 
 
 class Cut(Case):
@@ -105,6 +100,13 @@ class Cut(Case):
                        [6, 1, 8, 20, 41, 99, 175], [343, 6, 1], [27] * 12 + [26]):
             self.assertEqual(sum(frames), 350)
             self.assertEqual(rung(frames), whole, frames)
+
+    def test_the_world_is_the_same(self):
+        whole = world_behind([300])
+        self.assertEqual(whole[-1], [42, 6, 0, 5, 5])
+        for frames in ([150, 150], [20] * 15, [299, 1], [5, 295], [6, 1, 8, 20, 41, 99, 125], [0, 300, 0]):
+            self.assertEqual(sum(frames), 300)
+            self.assertEqual(world_behind(frames), whole, frames)
 
     def test_with_something_left_over_at_the_end(self):
         whole = rung([300])

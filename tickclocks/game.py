@@ -4,12 +4,18 @@ BEGINS = 0
 FRAME = 1
 CLOCK = 2
 SPEED = 3
+TIMER = 4
+STOP = 5
+LEFT = 6
+NOW = 7
+NEXT = 8
 
 # By the number of a call: how many numbers it takes up in the list, its own among them.
-WIDTHS = (3, 2, 3, 3, 4)
+WIDTHS = (3, 2, 3, 3, 4, 2, 2, 2, 1, 1)
 
 OUT_OF_BOUNDS = -1
 NO_SUCH_CLOCK = -2
+NO_SUCH_TIMER = -2
 TOO_MANY = -5
 
 FIRST_STEP = 16
@@ -24,6 +30,7 @@ HIGHEST_BEHIND = 1000
 HIGHEST_AGAIN = 1000
 CLOCKS_AT_MOST = 6
 TIMERS_AT_MOST = 12
+TICKS_AHEAD = 300
 
 
 class Clock:
@@ -41,6 +48,22 @@ class Clock:
         self.hundredths = share % 100
         self.ticks += share // 100
         return share // 100
+
+    def twin(self):
+        """Answer a clock that is like this one now and goes on without it."""
+        clock = Clock(self.hangs_on, self.speed)
+        clock.ticks = self.ticks
+        clock.hundredths = self.hundredths
+        return clock
+
+
+def move_clocks(clocks):
+    """Let all clocks of a game go on by one of its ticks."""
+    # A clock hangs on one with a lower number, so what it hangs on has gone on already.
+    moved = []
+    for clock in clocks:
+        given = 1 if clock.hangs_on is None else moved[clock.hangs_on]
+        moved.append(clock.go_on(given))
 
 
 class Timer:
@@ -64,6 +87,13 @@ class Timer:
             self.due += self.again
         return dues
 
+    def first_ring(self, ahead):
+        """Answer in how many ticks of the game it rings first, or None; ahead is what foresee_clocks answers."""
+        for ticks, had in enumerate(ahead, start=1):
+            if had[self.clock] >= self.due:
+                return ticks
+        return None
+
 
 class Game:
     """The state that the calls of one list share."""
@@ -84,6 +114,13 @@ class Game:
     def has_clock(self, number):
         return number < len(self.clocks)
 
+    def find_timer(self, number):
+        """Answer the timer of this number, or None if it is not there (any more)."""
+        for timer in self.timers:
+            if timer.number == number:
+                return timer
+        return None
+
     def take_parts(self, parts):
         """Put a frame's parts to what is left over; answer how many ticks the frame has."""
         together = self.left_over + parts
@@ -93,12 +130,15 @@ class Game:
         self.lost += wanted - ticks
         return ticks
 
-    def move_clocks(self):
-        # A clock hangs on one with a lower number, so what it hangs on has gone on already.
-        moved = []
-        for clock in self.clocks:
-            given = 1 if clock.hangs_on is None else moved[clock.hangs_on]
-            moved.append(clock.go_on(given))
+    def foresee_clocks(self):
+        """Answer, for each of the game's next ticks, how many ticks each clock will have had by then."""
+        # Twins go on in the clocks' place, for nothing of the game may change.
+        clocks = [clock.twin() for clock in self.clocks]
+        ahead = []
+        while len(ahead) < TICKS_AHEAD:
+            move_clocks(clocks)
+            ahead.append([clock.ticks for clock in clocks])
+        return ahead
 
     def take_rings(self):
         """Answer (clock, due, timer) of all that is due by now, in the order in which it rings."""
@@ -116,7 +156,7 @@ class Game:
     def tick(self):
         """Go on by one tick; answer what rings at it, three numbers each."""
         self.ticks += 1
-        self.move_clocks()
+        move_clocks(self.clocks)
         told = []
         for ring in self.take_rings():
             told.extend([self.ticks, ring[2], ring[1]])
@@ -178,6 +218,44 @@ def add_timer(game, on, behind, again):
     return [number]
 
 
+def stop_timer(game, number):
+    if game.find_timer(number) is None:
+        return [NO_SUCH_TIMER]
+    game.timers = [timer for timer in game.timers if timer.number != number]
+    return [len(game.timers)]
+
+
+def tell_left(game, number):
+    timer = game.find_timer(number)
+    if timer is None:
+        return [NO_SUCH_TIMER]
+    clock = game.clocks[timer.clock]
+    return [timer.clock, timer.due - clock.ticks, timer.again]
+
+
+def tell_now(game, number):
+    if not game.has_clock(number):
+        return [NO_SUCH_CLOCK]
+    clock = game.clocks[number]
+    above = 0 if clock.hangs_on is None else clock.hangs_on + 1
+    return [clock.ticks, clock.hundredths, clock.speed, above]
+
+
+def tell_next(game):
+    ahead = game.foresee_clocks()
+    told = []
+    # The timers stand in the order of their numbers: new ones come last.
+    for timer in game.timers:
+        ticks = timer.first_ring(ahead)
+        if ticks is not None:
+            told.extend([timer.number, ticks])
+    return [len(told) // 2] + told
+
+
+def show(game):
+    return [game.ticks, game.left_over, game.lost, len(game.clocks), len(game.timers)]
+
+
 def answer_call(game, call):
     number = call[0]
     if number == BEGINS:
@@ -188,7 +266,17 @@ def answer_call(game, call):
         return add_clock(game, call[1], call[2])
     if number == SPEED:
         return change_speed(game, call[1], call[2])
-    return add_timer(game, call[1], call[2], call[3])
+    if number == TIMER:
+        return add_timer(game, call[1], call[2], call[3])
+    if number == STOP:
+        return stop_timer(game, call[1])
+    if number == LEFT:
+        return tell_left(game, call[1])
+    if number == NOW:
+        return tell_now(game, call[1])
+    if number == NEXT:
+        return tell_next(game)
+    return show(game)
 
 
 def answers(calls):
